@@ -1,6 +1,9 @@
 package canon
 
-import "ratchet/api"
+import (
+	"ratchet/api"
+	"ratchet/shape"
+)
 
 // draft gives ids to groups that come behind those of a catalog. It keeps to itself what is new, so that a refusal leaves a table as it was.
 type draft struct {
@@ -23,22 +26,12 @@ func (d *draft) all(l []api.RecType) []int {
 
 // number tells the ids of a closed list's types; or the place of the first group with which there would be too many.
 func (d *draft) number(l []api.RecType) ([]int, int, bool) {
-	var ids []int
-	for g, r := range l {
-		first, ok := d.place(rolledUp(r, ids))
-		if !ok {
-			return nil, g, false
-		}
-		for i := range r.Types {
-			ids = append(ids, first+i)
-		}
-	}
-	return ids, 0, true
+	return shape.Number(l, d.place)
 }
 
 // place tells the first id of a rolled up group, a new one if it is one with none ahead.
 func (d *draft) place(r api.RecType) (int, bool) {
-	key := text(r)
+	key := shape.Text(r)
 	for _, c := range []catalog{d.known, d.fresh} {
 		if first, ok := c.firsts[key]; ok {
 			return first, true

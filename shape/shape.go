@@ -1,4 +1,5 @@
-package canon
+// Package shape tells groups of types by their shape, whatever numbers their types have: layers 6 and 7 tell types apart by it.
+package shape
 
 import (
 	"strconv"
@@ -9,6 +10,21 @@ import (
 // rolled marks the first place of a rolled up group; those behind it follow downward, as types.Unroll takes them.
 const rolled = -100
 
+// Number tells the ids of a closed list's types by the first id that place gives each group, rolled up; or the place of the first group that it refuses.
+func Number(l []api.RecType, place func(r api.RecType) (int, bool)) ([]int, int, bool) {
+	var ids []int
+	for g, r := range l {
+		first, ok := place(rolledUp(r, ids))
+		if !ok {
+			return nil, g, false
+		}
+		for i := range r.Types {
+			ids = append(ids, first+i)
+		}
+	}
+	return ids, 0, true
+}
+
 // rolledUp tells a group by the ids of the types ahead of it, and its own types by their places. Whether it was written as a group is left out.
 func rolledUp(r api.RecType, ids []int) api.RecType {
 	first := len(ids)
@@ -18,11 +34,11 @@ func rolledUp(r api.RecType, ids []int) api.RecType {
 		}
 		return rolled - (n - first)
 	}
-	return api.RecType{Types: each(r.Types, func(s api.SubType) api.SubType { return swapped(s, told) })}
+	return api.RecType{Types: each(r.Types, func(s api.SubType) api.SubType { return Swapped(s, told) })}
 }
 
-// swapped tells what counts of a type in lists of its own, with what swap answers in the place of each number. A number type's Null and Heap, and lists that the kind does not have, are left out.
-func swapped(s api.SubType, swap func(n int) int) api.SubType {
+// Swapped tells what counts of a type in lists of its own, with what swap answers in the place of each number. A number type's Null and Heap, and lists that the kind does not have, are left out.
+func Swapped(s api.SubType, swap func(n int) int) api.SubType {
 	val := func(v api.ValType) api.ValType { return swappedVal(v, swap) }
 	field := func(f api.Field) api.Field { return api.Field{Type: val(f.Type), Mut: f.Mut} }
 	c := api.CompType{Kind: s.Comp.Kind}
@@ -53,8 +69,8 @@ func each[T any](l []T, tell func(T) T) []T {
 	return out
 }
 
-// text tells a rolled up group by numbers, each list behind its length, so that two groups are one just if their texts are. types.RecText would not do: all that is no type has one text there.
-func text(r api.RecType) string {
+// Text tells a rolled up group by numbers, each list behind its length, so that two groups are one just if their texts are. types.RecText would not do: all that is no type has one text there.
+func Text(r api.RecType) string {
 	w := &writer{}
 	for _, s := range r.Types {
 		w.sub(s)
