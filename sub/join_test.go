@@ -101,15 +101,51 @@ func TestSU4JoinOfDeclarationsThatMayNotBe(t *testing.T) {
 	holdJoin(t, l, 4, 5, 0)
 	holdJoin(t, l, 5, 4, 1)
 	holdJoin(t, l, 5, 2, api.HStruct)
-	kindless := []api.RecType{alone(api.CompType{}), alone(api.CompType{}, 0)}
-	holdApart(t, kindless, 0, 0)
-	holdApart(t, kindless, 1, 0)
-	holdApart(t, kindless, 1, api.HNone)
 	// Families are those of the kinds.
 	mixed := read("(sub (func))", "(sub 0 (struct))", "(sub 1 (struct))")
 	holdApart(t, mixed, 1, 0)
 	holdApart(t, mixed, 0, 1)
 	holdJoin(t, mixed, 2, 1, 1)
+}
+
+func TestSU4JoinOfNoKind(t *testing.T) {
+	none, other := api.CompType{}, api.CompType{Kind: 4}
+	l := []api.RecType{
+		alone(none), alone(none), alone(none, 0), alone(none, 1), alone(none, 2), // 0 and 1 are one, 2 and 3 too
+		alone(other), alone(other, 0), // 5, 6
+		alone(comp("(struct)"), 1), alone(comp("(func)"), 0), // 7, 8
+		alone(comp("(struct)")), alone(none, 9), alone(other, 9), // 9 to 11
+	}
+	for _, c := range []struct{ a, b, want int }{
+		{0, 0, 0}, {0, 1, 0}, {1, 0, 1}, {2, 2, 2}, {2, 0, 0}, {0, 2, 0}, {2, 1, 0}, {1, 2, 1}, {2, 3, 2}, {3, 2, 3},
+		{4, 2, 2}, {4, 3, 2}, {3, 4, 3}, {4, 1, 0}, {1, 4, 1}, {5, 5, 5}, {6, 6, 6}, {6, 2, 0}, {3, 6, 1}, {6, 1, 0},
+		// Together with those that have a family.
+		{7, 7, 7}, {7, 0, 1}, {0, 7, 0}, {7, 2, 1}, {2, 7, 0}, {8, 1, 0}, {8, 6, 0}, {6, 8, 0}, {7, 9, api.HStruct},
+		{10, 10, 10}, {10, 9, 9}, {9, 10, 9}, {10, 11, 9}, {11, 10, 9}, {10, 7, api.HStruct}, {7, 10, api.HStruct},
+		{10, api.HNone, 9}, {api.HNone, 10, 9}, {11, api.HI31, api.HEq}, {api.HI31, 11, api.HEq}, {10, api.HStruct, api.HStruct}, {api.HAny, 10, api.HAny},
+	} {
+		holdJoin(t, l, c.a, c.b, c.want)
+	}
+	for _, c := range [][2]int{{0, 5}, {4, 5}, {5, 6}, {0, 9}, {0, 10}, {5, 11}, {5, 7}, {7, 8}, {8, 10}, {0, 12}, {0, -13}, {0, -100}, {0, math.MaxInt}, {0, math.MinInt}, {10, api.HFunc}, {10, api.HNoFunc}, {11, api.HExn}} {
+		holdApart(t, l, c[0], c[1])
+		holdApart(t, l, c[1], c[0])
+	}
+	for h := range tops() {
+		for _, n := range []int{0, 2, 5, 6} {
+			holdApart(t, l, n, h)
+			holdApart(t, l, h, n)
+		}
+	}
+	// Where all declarations may be, and where they lead round.
+	if n, e := sub.Decl(l[:2]); n != 0 || e != api.OK {
+		t.Errorf("Decl: %d, %d", n, e)
+	}
+	round := []api.RecType{{Types: []api.SubType{{Supers: []int{1}}, {Supers: []int{0}}, {}}}, alone(none, 3)}
+	holdJoin(t, round, 0, 1, 0)
+	holdJoin(t, round, 1, 0, 1)
+	holdJoin(t, round, 3, 3, 3)
+	holdApart(t, round, 0, 2)
+	holdApart(t, round, 1, 3)
 }
 
 func TestSU4JoinOfMany(t *testing.T) {
@@ -142,5 +178,56 @@ func TestSU4JoinOfMany(t *testing.T) {
 	}
 	if joined < 3000 {
 		t.Errorf("only %d joins are defined types", joined)
+	}
+}
+
+// bared takes the kind from many types, but from none that one with a kind declares above it.
+func bared(g *generator, l []api.RecType) []api.RecType {
+	out := copied(l)
+	var all []*api.SubType
+	for _, r := range out {
+		for i := range r.Types {
+			all = append(all, &r.Types[i])
+		}
+	}
+	kept := map[int]bool{}
+	for n, s := range slices.Backward(all) {
+		if !kept[n] && g.Intn(3) > 0 {
+			s.Comp = api.CompType{Kind: 4 * g.Intn(2)}
+		} else if len(s.Supers) > 0 {
+			kept[s.Supers[0]] = true
+		}
+	}
+	return out
+}
+
+func TestSU4JoinOfManyOfNoKind(t *testing.T) {
+	joined, apart := 0, 0
+	g := newGenerator(16, false)
+	for range 800 {
+		l := bared(g, g.list())
+		o := newOracle(l)
+		for _, a := range heaps(l) {
+			for _, b := range heaps(l) {
+				want := o.joins(a, b)
+				if len(want) == 0 {
+					holdApart(t, l, a, b)
+					apart++
+					continue
+				}
+				if a >= 0 && b >= 0 && want[0] >= 0 {
+					row := o.row(a)
+					i := slices.IndexFunc(row, func(n int) bool { return slices.Contains(want, n) })
+					want = row[i : i+1]
+					joined++
+				}
+				if h, ok := sub.Join(l, a, b); !ok || !slices.Contains(want, h) {
+					t.Fatalf("Join(%s; %d, %d): %d, %v, not %v", listText(l), a, b, h, ok, want)
+				}
+			}
+		}
+	}
+	if joined < 3000 || apart < 3000 {
+		t.Errorf("only %d joins are defined types, and %d are none", joined, apart)
 	}
 }

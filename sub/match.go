@@ -48,14 +48,21 @@ func (o *order) above(h int) iter.Seq[int] {
 	}
 }
 
-// join tells the first of what stands above one heap type that the other one matches.
-func (o *order) join(a, b int) (int, bool) {
+// unlike tells whether two heap types are of unlike families. A type of no kind has no family, but is a type all the same: what it declares above it says what it has in common with others.
+func (o *order) unlike(a, b int) bool {
 	k, ok := o.kin(a)
-	if m, is := o.kin(b); !ok || !is || k.top != m.top {
+	m, is := o.kin(b)
+	return ok && is && k.top != m.top
+}
+
+// join tells the first of what stands above one heap type that the other one matches. Above what is none nothing stands.
+func (o *order) join(a, b int) (int, bool) {
+	if o.unlike(a, b) {
 		return 0, false
 	}
-	if a == k.bottom {
-		return b, true
+	if k, ok := o.kin(a); ok && a == k.bottom {
+		// The least of a family stands below types that its own row does not tell; the other one's row does.
+		a, b = b, a
 	}
 	for h := range o.above(a) {
 		if o.heap(b, h) {

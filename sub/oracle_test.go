@@ -6,7 +6,7 @@ import (
 	"ratchet/types"
 )
 
-// oracle knows which heap types match which by the chapter's words: each word is a step, and steps are led on till no new pair comes. It goes for lists in which no type stands below one of another kind.
+// oracle knows which heap types match which by the chapter's words: each word is a step, and steps are led on till no new pair comes. It goes for lists in which no type stands below one of another kind, or of none, where it has one itself.
 type oracle struct {
 	l    []api.RecType
 	subs []api.SubType
@@ -57,10 +57,10 @@ func newOracle(l []api.RecType) *oracle {
 
 // step tells what a defined type matches, and is matched by, at once.
 func (o *oracle) step(n int, s api.SubType) {
-	kind := map[int]int{api.CFunc: api.HFunc, api.CStruct: api.HStruct, api.CArray: api.HArray}[s.Comp.Kind]
-	least := map[int]int{api.CFunc: api.HNoFunc, api.CStruct: api.HNone, api.CArray: api.HNone}[s.Comp.Kind]
-	o.say(n, kind)
-	o.say(least, n)
+	if kind, ok := map[int]int{api.CFunc: api.HFunc, api.CStruct: api.HStruct, api.CArray: api.HArray}[s.Comp.Kind]; ok {
+		o.say(n, kind)
+		o.say(map[int]int{api.CFunc: api.HNoFunc, api.CStruct: api.HNone, api.CArray: api.HNone}[s.Comp.Kind], n)
+	}
 	if len(s.Supers) > 0 {
 		o.say(n, s.Supers[0])
 	}
