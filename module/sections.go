@@ -5,33 +5,11 @@ import (
 	"ratchet/code"
 	"ratchet/entry"
 	"ratchet/opcode"
+	"ratchet/section"
 )
 
-// Ids of sections.
-const (
-	idCustom = iota
-	idType
-	idImport
-	idFunction
-	idTable
-	idMemory
-	idGlobal
-	idExport
-	idStart
-	idElement
-	idCode
-	idData
-	idCount
-	idTag
-)
-
-// maxType is the greatest number of a type, here as in all forms that speak of one.
-const maxType = 1<<31 - 1
-
-const (
-	groupByte = 0x4e // ahead of how many types a group has
-	withInit  = 0x40 // ahead of a table that tells its first elements
-)
+// groupByte stands ahead of how many types a group has.
+const groupByte = 0x4e
 
 // reader reads section by section. What a section says of another one is kept, until all are read.
 type reader struct {
@@ -46,9 +24,9 @@ type reader struct {
 func whole(b []byte, sections []api.Section) api.Module {
 	r := &reader{}
 	contents := r.contents()
-	last := idCustom
+	last := section.Custom
 	for _, s := range sections {
-		if s.ID == idCustom {
+		if s.ID == section.Custom {
 			r.m.Customs = append(r.m.Customs, api.Custom{Name: s.Name, Bytes: s.Data, After: last})
 			continue
 		}
@@ -68,21 +46,21 @@ func whole(b []byte, sections []api.Section) api.Module {
 }
 
 // contents are what reads each section, by its id.
-func (r *reader) contents() [idTag + 1]func() {
+func (r *reader) contents() [section.Tag + 1]func() {
 	return [...]func(){
-		idType:     r.groups,
-		idImport:   r.imports,
-		idFunction: r.typesOfFunctions,
-		idTable:    r.tables,
-		idMemory:   r.memories,
-		idGlobal:   r.globals,
-		idExport:   r.exports,
-		idStart:    r.start,
-		idElement:  r.elementSegments,
-		idCode:     r.bodies,
-		idData:     r.dataSegments,
-		idCount:    r.dataCount,
-		idTag:      r.tags,
+		section.Type:     r.groups,
+		section.Import:   r.imports,
+		section.Function: r.typesOfFunctions,
+		section.Table:    r.tables,
+		section.Memory:   r.memories,
+		section.Global:   r.globals,
+		section.Export:   r.exports,
+		section.Start:    r.start,
+		section.Element:  r.elementSegments,
+		section.Code:     r.bodies,
+		section.Data:     r.dataSegments,
+		section.Count:    r.dataCount,
+		section.Tag:      r.tags,
 	}
 }
 
@@ -91,7 +69,7 @@ func (r *reader) groups() { r.m.Types = elements(&r.cursor, api.MaxTypes, r.grou
 func (r *reader) imports() { r.m.Imports = each(&r.cursor, api.MaxFuncs, entry.Import) }
 
 func (r *reader) typesOfFunctions() {
-	r.functions = elements(&r.cursor, api.MaxFuncs, func() uint32 { return r.atMost(maxType) })
+	r.functions = elements(&r.cursor, api.MaxFuncs, func() uint32 { return r.atMost(section.MaxType) })
 }
 
 func (r *reader) tables() { r.m.Tables = elements(&r.cursor, api.MaxTables, r.table) }
@@ -143,7 +121,7 @@ func (r *reader) sizeOfGroup() (int, int) {
 }
 
 func (r *reader) table() api.Table {
-	if !r.begins(withInit) {
+	if !r.begins(section.WithInit) {
 		return api.Table{Type: one(&r.cursor, entry.TableType)}
 	}
 	r.at++

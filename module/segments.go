@@ -4,15 +4,11 @@ import (
 	"ratchet/api"
 	"ratchet/entry"
 	"ratchet/opcode"
+	"ratchet/section"
 )
 
-// Bits of the number with which an element segment begins.
-const (
-	notActive   = 1
-	toldOrOnly  = 2 // of an active one its table is told, another one is only declared
-	expressions = 4
-	allBits     = notActive | toldOrOnly | expressions
-)
+// allBits are those that an element segment may begin with.
+const allBits = section.NotActive | section.ToldOrOnly | section.Expressions
 
 // elementSegment reads an element segment. Each kind has the parts of the one below it in the switch, too.
 func (r *reader) elementSegment() api.Elem {
@@ -22,16 +18,16 @@ func (r *reader) elementSegment() api.Elem {
 		giveUp(start, api.ErrForm)
 	}
 	var s api.Elem
-	switch bits &^ expressions {
-	case toldOrOnly:
+	switch bits &^ section.Expressions {
+	case section.ToldOrOnly:
 		s.Table = r.number()
 		fallthrough
 	case 0:
 		s.Mode = api.Active
 		s.Offset = r.expression()
-	case notActive | toldOrOnly:
+	case section.NotActive | section.ToldOrOnly:
 		s.Mode = api.Declared
-	case notActive:
+	case section.NotActive:
 		s.Mode = api.Passive
 	}
 	s.Type = r.typeOfElements(bits)
@@ -41,8 +37,8 @@ func (r *reader) elementSegment() api.Elem {
 
 // typeOfElements reads the elements' type, where the segment tells it.
 func (r *reader) typeOfElements(bits uint32) api.ValType {
-	isTold := bits&(notActive|toldOrOnly) != 0
-	if bits&expressions == 0 {
+	isTold := bits&(section.NotActive|section.ToldOrOnly) != 0
+	if bits&section.Expressions == 0 {
 		if isTold {
 			r.zero()
 		}
@@ -56,7 +52,7 @@ func (r *reader) typeOfElements(bits uint32) api.ValType {
 
 // elementReader is what reads one element.
 func (r *reader) elementReader(bits uint32) func() []api.Instr {
-	if bits&expressions != 0 {
+	if bits&section.Expressions != 0 {
 		return r.expression
 	}
 	return r.function
@@ -72,14 +68,14 @@ func (r *reader) dataSegment() api.Data {
 	start := r.at
 	var s api.Data
 	switch r.number() {
-	case 2:
+	case section.ToldOrOnly:
 		s.Memory = r.number()
 		fallthrough
 	case 0:
 		s.Mode = api.Active
 		s.Offset = r.expression()
 		fallthrough
-	case 1:
+	case section.NotActive:
 		s.Init = r.bytes()
 	default:
 		giveUp(start, api.ErrForm)
