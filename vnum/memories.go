@@ -5,11 +5,12 @@ import (
 
 	"ratchet/api"
 	"ratchet/instr"
+	"ratchet/scope"
 )
 
 // access tells the types of the address and of what is loaded or stored there, if the instruction may speak of such a place.
 func (s *step) access() (addr, v api.ValType, e api.Errno) {
-	m, e := at(s.x.Memories, s.i.Mem.Mem)
+	m, e := scope.At(s.x.Memories, s.i.Mem.Mem)
 	if e != api.OK {
 		return addr, v, e
 	}
@@ -42,7 +43,7 @@ func (s *step) store() api.Errno {
 }
 
 func (s *step) memorySize() api.Errno {
-	m, e := at(s.x.Memories, s.i.X)
+	m, e := scope.At(s.x.Memories, s.i.X)
 	if e != api.OK {
 		return e
 	}
@@ -50,7 +51,7 @@ func (s *step) memorySize() api.Errno {
 }
 
 func (s *step) memoryGrow() api.Errno {
-	m, e := at(s.x.Memories, s.i.X)
+	m, e := scope.At(s.x.Memories, s.i.X)
 	if e != api.OK {
 		return e
 	}
@@ -58,19 +59,19 @@ func (s *step) memoryGrow() api.Errno {
 }
 
 func (s *step) memoryFill() api.Errno {
-	m, e := at(s.x.Memories, s.i.X)
+	m, e := scope.At(s.x.Memories, s.i.X)
 	if e != api.OK {
 		return e
 	}
-	return s.c.Pops(list(Addr(m), i32(), Addr(m)))
+	return s.c.Pops(list(Addr(m), scope.I32(), Addr(m)))
 }
 
 func (s *step) memoryCopy() api.Errno {
-	to, e := at(s.x.Memories, s.i.X)
+	to, e := scope.At(s.x.Memories, s.i.X)
 	if e != api.OK {
 		return e
 	}
-	from, e := at(s.x.Memories, s.i.Y)
+	from, e := scope.At(s.x.Memories, s.i.Y)
 	if e != api.OK {
 		return e
 	}
@@ -81,11 +82,11 @@ func (s *step) memoryInit() api.Errno {
 	if e := s.data(); e != api.OK {
 		return e
 	}
-	m, e := at(s.x.Memories, s.i.Y)
+	m, e := scope.At(s.x.Memories, s.i.Y)
 	if e != api.OK {
 		return e
 	}
-	return s.c.Pops(list(Addr(m), i32(), i32()))
+	return s.c.Pops(list(Addr(m), scope.I32(), scope.I32()))
 }
 
 func (s *step) dataDrop() api.Errno { return s.data() }

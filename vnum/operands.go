@@ -3,6 +3,7 @@ package vnum
 import (
 	"ratchet/api"
 	"ratchet/instr"
+	"ratchet/scope"
 	"ratchet/types"
 )
 
@@ -15,7 +16,7 @@ func (s *step) drop() api.Errno {
 func (s *step) choose() api.Errno {
 	height := s.c.Height()
 	var a, b api.ValType
-	test, e := s.c.PopType(i32())
+	test, e := s.c.PopType(scope.I32())
 	if e == api.OK {
 		b, e = s.c.Pop()
 	}
@@ -51,21 +52,10 @@ func (s *step) chooseOf() api.Errno {
 		return api.ErrArity
 	}
 	v := s.i.Types[0]
-	if !s.known(v) {
+	if !scope.Known(s.x.Types, v) {
 		return api.ErrIndex
 	}
-	return s.c.Swap(list(v, v, i32()), list(v))
-}
-
-// known tells whether a type speaks only of types that there are.
-func (s *step) known(v api.ValType) bool {
-	if v.Num != api.TRef {
-		return true
-	}
-	if v.Heap < 0 {
-		return v.Heap >= api.HNoExn
-	}
-	return v.Heap < types.Count(s.x.Types)
+	return s.c.Swap(list(v, v, scope.I32()), list(v))
 }
 
 // operator checks what takes and gives types that hang on its opcode alone.

@@ -60,16 +60,5 @@ func group(op int) int {
 	return op
 }
 
-func i32() api.ValType { return api.ValType{Num: api.TI32} }
-
 // list tells types as a list, as the checker takes them.
 func list(l ...api.ValType) []api.ValType { return l }
-
-// at finds what an index names.
-func at[T any](l []T, n uint32) (T, api.Errno) {
-	if uint64(n) >= uint64(len(l)) {
-		var none T
-		return none, api.ErrIndex
-	}
-	return l[n], api.OK
-}

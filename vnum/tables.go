@@ -2,11 +2,12 @@ package vnum
 
 import (
 	"ratchet/api"
+	"ratchet/scope"
 	"ratchet/sub"
 )
 
 func (s *step) tableGet() api.Errno {
-	t, e := at(s.x.Tables, s.i.X)
+	t, e := scope.At(s.x.Tables, s.i.X)
 	if e != api.OK {
 		return e
 	}
@@ -14,7 +15,7 @@ func (s *step) tableGet() api.Errno {
 }
 
 func (s *step) tableSet() api.Errno {
-	t, e := at(s.x.Tables, s.i.X)
+	t, e := scope.At(s.x.Tables, s.i.X)
 	if e != api.OK {
 		return e
 	}
@@ -22,7 +23,7 @@ func (s *step) tableSet() api.Errno {
 }
 
 func (s *step) tableSize() api.Errno {
-	t, e := at(s.x.Tables, s.i.X)
+	t, e := scope.At(s.x.Tables, s.i.X)
 	if e != api.OK {
 		return e
 	}
@@ -30,7 +31,7 @@ func (s *step) tableSize() api.Errno {
 }
 
 func (s *step) tableGrow() api.Errno {
-	t, e := at(s.x.Tables, s.i.X)
+	t, e := scope.At(s.x.Tables, s.i.X)
 	if e != api.OK {
 		return e
 	}
@@ -38,7 +39,7 @@ func (s *step) tableGrow() api.Errno {
 }
 
 func (s *step) tableFill() api.Errno {
-	t, e := at(s.x.Tables, s.i.X)
+	t, e := scope.At(s.x.Tables, s.i.X)
 	if e != api.OK {
 		return e
 	}
@@ -46,11 +47,11 @@ func (s *step) tableFill() api.Errno {
 }
 
 func (s *step) tableCopy() api.Errno {
-	to, e := at(s.x.Tables, s.i.X)
+	to, e := scope.At(s.x.Tables, s.i.X)
 	if e != api.OK {
 		return e
 	}
-	from, e := at(s.x.Tables, s.i.Y)
+	from, e := scope.At(s.x.Tables, s.i.Y)
 	switch {
 	case e != api.OK:
 		return e
@@ -61,21 +62,21 @@ func (s *step) tableCopy() api.Errno {
 }
 
 func (s *step) tableInit() api.Errno {
-	v, e := at(s.x.Elems, s.i.X)
+	v, e := scope.At(s.x.Elems, s.i.X)
 	if e != api.OK {
 		return e
 	}
-	t, e := at(s.x.Tables, s.i.Y)
+	t, e := scope.At(s.x.Tables, s.i.Y)
 	switch {
 	case e != api.OK:
 		return e
 	case !sub.Val(s.x.Types, v, t.Elem):
 		return api.ErrType
 	}
-	return s.c.Pops(list(Addr(t.Limits), i32(), i32()))
+	return s.c.Pops(list(Addr(t.Limits), scope.I32(), scope.I32()))
 }
 
 func (s *step) elemDrop() api.Errno {
-	_, e := at(s.x.Elems, s.i.X)
+	_, e := scope.At(s.x.Elems, s.i.X)
 	return e
 }

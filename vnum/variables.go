@@ -1,6 +1,9 @@
 package vnum
 
-import "ratchet/api"
+import (
+	"ratchet/api"
+	"ratchet/scope"
+)
 
 // named tells the error of a local that there isn't as that of all other indices.
 func named(v api.ValType, e api.Errno) (api.ValType, api.Errno) {
@@ -43,7 +46,7 @@ func (s *step) localTee() api.Errno {
 }
 
 func (s *step) globalGet() api.Errno {
-	g, e := at(s.x.Globals, s.i.X)
+	g, e := scope.At(s.x.Globals, s.i.X)
 	if e != api.OK {
 		return e
 	}
@@ -51,7 +54,7 @@ func (s *step) globalGet() api.Errno {
 }
 
 func (s *step) globalSet() api.Errno {
-	g, e := at(s.x.Globals, s.i.X)
+	g, e := scope.At(s.x.Globals, s.i.X)
 	switch {
 	case e != api.OK:
 		return e
