@@ -15,6 +15,26 @@ func At[T any](l []T, n uint32) (T, api.Errno) {
 	return l[n], api.OK
 }
 
+// Below asks that a number be below a count: of some things a context tells only how many there are.
+func Below(n uint32, count int) api.Errno {
+	if int64(n) >= int64(count) {
+		return api.ErrIndex
+	}
+	return api.OK
+}
+
+// Comp finds the composite type of a defined type that must be of a kind.
+func Comp(l []api.RecType, n, kind int) (api.CompType, api.Errno) {
+	t, _, _, e := types.At(l, n)
+	switch {
+	case e != api.OK:
+		return api.CompType{}, api.ErrIndex
+	case t.Comp.Kind != kind:
+		return api.CompType{}, api.ErrKind
+	}
+	return t.Comp, api.OK
+}
+
 // Known tells whether a type speaks only of types that there are. What stands beside a number counts for nothing.
 func Known(l []api.RecType, v api.ValType) bool {
 	switch {

@@ -91,10 +91,5 @@ func (s *step) memoryInit() api.Errno {
 
 func (s *step) dataDrop() api.Errno { return s.data() }
 
-// data asks for the data segment that an instruction names; of these the context tells only how many there are.
-func (s *step) data() api.Errno {
-	if int64(s.i.X) >= int64(s.x.Datas) {
-		return api.ErrIndex
-	}
-	return api.OK
-}
+// data asks for the data segment that an instruction names.
+func (s *step) data() api.Errno { return scope.Below(s.i.X, s.x.Datas) }
