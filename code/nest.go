@@ -2,17 +2,9 @@ package code
 
 import (
 	"ratchet/api"
+	"ratchet/nesting"
 	"ratchet/opcode"
 )
-
-// hasBody tells whether instructions up to an end stand behind one of that opcode.
-func hasBody(op int) bool {
-	switch op {
-	case opcode.Block, opcode.Loop, opcode.If, opcode.TryTable:
-		return true
-	}
-	return false
-}
 
 // bare is an instruction without those in it.
 func bare(i api.Instr) api.Instr {
@@ -44,7 +36,7 @@ func (n *nester) add(i api.Instr, at int) {
 		n.turn(at)
 	case i.Op == opcode.End:
 		n.shut(at)
-	case hasBody(i.Op):
+	case nesting.Has(i.Op):
 		n.open = append(n.open, block{head: i})
 	default:
 		n.put(i)

@@ -4,6 +4,7 @@ import (
 	"iter"
 
 	"ratchet/api"
+	"ratchet/nesting"
 	"ratchet/opcode"
 )
 
@@ -38,7 +39,7 @@ func walk(l []api.Instr, within func(open []stretch, i api.Instr, s stretch) []s
 // everyOne goes over all that stands in a list, whether it may stand there or not.
 func everyOne(l []api.Instr) iter.Seq2[api.Instr, stretch] {
 	return walk(l, func(open []stretch, i api.Instr, s stretch) []stretch {
-		if hasBody(i.Op) {
+		if nesting.Has(i.Op) {
 			s.depth++
 		}
 		return append(open, stretch{left: i.Else, depth: s.depth}, stretch{left: i.Body, depth: s.depth})
@@ -50,7 +51,7 @@ func asWritten(l []api.Instr) iter.Seq2[api.Instr, stretch] {
 	turn := stretch{left: []api.Instr{{Op: opcode.Else}}, mark: true}
 	end := stretch{left: []api.Instr{{Op: opcode.End}}, mark: true}
 	return walk(l, func(open []stretch, i api.Instr, s stretch) []stretch {
-		if !hasBody(i.Op) {
+		if !nesting.Has(i.Op) {
 			return open
 		}
 		open = append(open, end)
@@ -72,7 +73,7 @@ func (s *size) add(i api.Instr, depth int) {
 	if i.Op != opcode.Else && i.Op != opcode.End {
 		s.count++
 	}
-	if hasBody(i.Op) {
+	if nesting.Has(i.Op) {
 		s.depth = max(s.depth, depth+1)
 	}
 }

@@ -5,18 +5,13 @@ import (
 	"ratchet/entry"
 	"ratchet/instr"
 	"ratchet/leb"
+	"ratchet/nesting"
 	"ratchet/opcode"
 )
 
 // misfit tells whether an instruction has parts that its opcode does not, or is a mark that no instruction is.
 func misfit(i api.Instr) bool {
-	switch i.Op {
-	case opcode.Else, opcode.End:
-		return true
-	case opcode.If:
-		return len(i.Else) > 0 && !i.HasElse
-	}
-	return len(i.Body) > 0 && !hasBody(i.Op) || len(i.Else) > 0 || i.HasElse
+	return i.Op == opcode.Else || i.Op == opcode.End || !nesting.Fits(i)
 }
 
 func putExpression(l []api.Instr) ([]byte, api.Errno) {
